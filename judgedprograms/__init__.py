@@ -1,0 +1,1 @@
+"""pathguard: small programs that can't go astray, read and judged before they are let in."""
