@@ -1,1 +1,1 @@
-"""pathguard: small programs that can't go astray, read and judged before they are let in."""
+"""pathguard: small programs that can't go astray, read, judged before they are let in, and run."""

@@ -1,9 +1,12 @@
-"""The calls on a record: a program is loaded and judged, and what was found of it is told."""
+"""The calls on a record: a program is loaded, judged and run, and what was found of it is told."""
 
 from judgedprograms.judging import MOST_DATA, SLOTS, judged
-from judgedprograms.reading import Program, begins_at, first_fault
+from judgedprograms.reading import LAST_REGISTER, Program, begins_at, first_fault
+from judgedprograms.running import finished_run, told_of_run
+from judgedprograms.words import GREATEST_WORD
 
 MOST_INSTRUCTIONS = 128
+MOST_STEPS = 2000
 NO_WAY = 3
 
 
@@ -34,11 +37,12 @@ class Calls:
 
 
 class Record:
-    """What the calls of one line work on: a program, and what the last judge found of it."""
+    """What the calls of one line work on: a program, what the last judge found of it, and its last run."""
 
     def __init__(self):
         self.program = None
         self.judgement = None
+        self.last_run = None
 
     def load(self, code):
         if not is_code(code):
@@ -49,6 +53,7 @@ class Record:
             return fault
         self.program = program
         self.judgement = None
+        self.last_run = None
         return [0]
 
     def judge(self, least):
@@ -67,12 +72,46 @@ class Record:
         state = self.judgement.states[place]
         return [NO_WAY] if state is None else list(state[slot])
 
+    def run(self, most, data, helpers):
+        if self.program is None:
+            return [-1]
+        if not (0 <= most <= MOST_STEPS and is_data(data) and are_answers(helpers)):
+            return [-2]
+        self.last_run = finished_run(self.program, most, data, helpers)
+        return told_of_run(self.last_run)
+
+    def tell_register(self, number):
+        if self.last_run is None or not 0 <= number <= LAST_REGISTER:
+            return [-1]
+        return [self.last_run.registers[number]]
+
+    def tell_stack(self):
+        if self.last_run is None:
+            return [-1]
+        cells = self.last_run.stack.cells
+        return [len(cells)] + cells
+
+
+def are_bytes(row):
+    return all([0 <= number <= 255 for number in row])
+
 
 def is_code(code):
     """Whether a list is the bytes of 1 to 128 instructions."""
     if len(code) == 0 or len(code) % 8 != 0 or len(code) > 8 * MOST_INSTRUCTIONS:
         return False
-    return all([0 <= number <= 255 for number in code])
+    return are_bytes(code)
+
+
+def is_data(data):
+    return len(data) <= MOST_DATA and are_bytes(data)
+
+
+def are_answers(helpers):
+    """Whether a list is twos of r0, which is a word, and a code, which may be any number."""
+    if len(helpers) % 2 != 0:
+        return False
+    return all([0 <= helpers[place] <= GREATEST_WORD for place in range(0, len(helpers), 2)])
 
 
 def answer_of(record, calls):
@@ -85,6 +124,14 @@ def answer_of(record, calls):
     if number == 2:
         place = calls.take()
         return record.tell(place, calls.take())
+    if number == 3:
+        most = calls.take()
+        data = calls.take_row()
+        return record.run(most, data, calls.take_row())
+    if number == 4:
+        return record.tell_register(calls.take())
+    if number == 5:
+        return record.tell_stack()
     raise CallNotKnown(f"call {number}")
 
 

@@ -8,6 +8,7 @@ NEG = 8
 MOD = 9
 MOV = 11
 SWAP = 13
+GREATEST_WORD = 0xFFFFFFFFFFFFFFFF
 
 
 def ones(bits):

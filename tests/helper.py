@@ -1,4 +1,5 @@
-"""What the tests share: instructions as bytes, calls, answers call by call, and registers of a given range."""
+"""What the tests share: instructions as bytes, calls, answers call by call, what a run leaves, and registers of a
+given range."""
 
 from judgedprograms.machine import answers
 
@@ -40,16 +41,55 @@ def tell(place, slot):
     return [2, place, slot]
 
 
+def run(most=2000, data=(), helpers=()):
+    return [3, most, len(data), *data, len(helpers), *helpers]
+
+
+def reg(number):
+    return [4, number]
+
+
+STACK = [5]
+ALL_LEFT = [reg(number) for number in range(11)] + [STACK]
+
+
 def ask(*calls):
     """The answer to each call."""
     told = answers([number for call in calls for number in call])
     split = []
-    while told:
-        count = told.pop(0)
-        split.append(told[:count])
-        told = told[count:]
+    place = 0
+    while place < len(told):
+        end = place + 1 + told[place]
+        split.append(told[place + 1:end])
+        place = end
+    assert place == len(told), told
     assert len(split) == len(calls), split
     return split
+
+
+class Ran:
+    """What a run answers, and the registers and the stack that it leaves."""
+
+    def __init__(self, told, left):
+        self.how, self.place, count = told[:3]
+        self.asked = [told[3 + 7 * turn:10 + 7 * turn] for turn in range(count)]
+        self.data = told[4 + 7 * count:]
+        assert all(len(row) == 7 for row in self.asked), told
+        assert told[3 + 7 * count] == len(self.data), told
+        assert all(len(row) == 1 for row in left[:11]), left
+        self.regs = [row[0] for row in left[:11]]
+        assert left[11][0] == 512 and len(left[11]) == 513, left
+        self.stack = left[11][1:]
+
+    def end(self):
+        return self.how, self.place
+
+
+def ran(rows, data=(), helpers=(), most=2000):
+    """A new program's run."""
+    found = ask(load(*rows), run(most, data, helpers), *ALL_LEFT)
+    assert found[0] == [0], found[0]
+    return Ran(found[1], found[2:])
 
 
 class Sketch:

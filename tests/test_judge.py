@@ -2,7 +2,7 @@
 
 import unittest
 
-from tests.helper import ANY, END, NO_WAY, Sketch, ask, ins, judge, load, tell, wide
+from tests.helper import END, NO_WAY, Sketch, ask, ins, judge, load, tell, wide
 
 
 def verdict(least, *rows):
@@ -219,39 +219,6 @@ class ExchangeTest(unittest.TestCase):
         for code in STORES:
             self.assertEqual(verdict_at(code, 2, 0, 0, 1, 0), [0])
             self.assertEqual(verdict_at(code, 1, 0, 0, 1, 64), [0])
-
-
-class DocumentTest(unittest.TestCase):
-    def test_mov_and_end(self):
-        found = ask(load([0xB7, 0, 0, 0, 0x2A, 0, 0, 0], END), judge(0), tell(1, 0))
-        self.assertEqual(found, [[0], [0], [0, 42, 42]])
-
-    def test_a_byte_of_data(self):
-        code = load([0x71, 0x13, 5, 0, 0, 0, 0, 0], END)
-        self.assertEqual(ask(code, judge(6), tell(1, 3), judge(5)), [[0], [0], [0, 0, 255], [1, 0]])
-
-    def test_a_jump_over_one(self):
-        code = load([0x25, 2, 1, 0, 0x0A, 0, 0, 0], ins(0xB7), END)
-        found = ask(code, judge(0), tell(1, 2), judge(3), tell(1, 2))
-        self.assertEqual(found[2::2], [[0, 0, 10], [0, 3, 10]])
-
-    def test_an_address_on_the_stack(self):
-        code = load([0x7B, 0x1A, 0xF8, 0xFF, 0, 0, 0, 0], [0x79, 0xA4, 0xF8, 0xFF, 0, 0, 0, 0], END)
-        self.assertEqual(ask(code, judge(0), tell(2, 4)), [[0], [0], [1, 0, 0]])
-
-    def test_helper_seven(self):
-        code = load([0x85, 0, 0, 0, 7, 0, 0, 0], END)
-        self.assertEqual(ask(code, judge(0), tell(1, 0), tell(1, 1)), [[0], [0], ANY, [0, 0, 0]])
-
-    def test_numbers(self):
-        for rows, number in (
-                ([wide(3, (1 << 64) - 1), [0xC7, 3, 0, 0, 63, 0, 0, 0]], (1 << 64) - 1),
-                ([wide(3, 77), [0x37, 3, 0, 0, 0, 0, 0, 0]], 0),
-                ([wide(3, 1 << 63), wide(4, (1 << 64) - 1), [0x3F, 0x43, 1, 0, 0, 0, 0, 0]], 1 << 63),
-                ([wide(3, 0x1234), [0xD4, 3, 0, 0, 16, 0, 0, 0]], 0x1234),
-                ([wide(3, 0x1234), [0xDC, 3, 0, 0, 16, 0, 0, 0]], 0x3412)):
-            place = sum(len(row) for row in rows) // 8
-            self.assertEqual(ask(load(*rows, END), judge(0), tell(place, 3))[2], [0, number, number])
 
 
 if __name__ == "__main__":

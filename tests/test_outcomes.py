@@ -1,8 +1,8 @@
-"""Ranges of one number: the number that comes out of an operation, to the bit."""
+"""The number that comes out of an operation, to the bit: in a run, and as a range of one number."""
 
 import unittest
 
-from tests.helper import END, after, ask, ins, judge, load, tell, wide
+from tests.helper import END, after, ask, ins, judge, load, ran, reg, run, tell, wide
 
 MAX = (1 << 64) - 1
 TOP = 1 << 63
@@ -14,26 +14,47 @@ def minus(number, bits=64):
     return (1 << bits) - number
 
 
+def run_alone(rows, x=0):
+    """Register 3 behind a run that must leave all others as they were."""
+    found = ran(rows)
+    assert found.end() == (0, -1), found.end()
+    others = found.regs[:3] + found.regs[4:]
+    assert others == [0, 1 << 32, 0, x, 0, 0, 0, 0, 0, 1 << 33], others
+    return found.regs[3]
+
+
 def by_imm(code, dst, imm, off=0):
-    found = after(ins(code, 3, off=off, imm=imm), (0, dst, dst))
-    assert found[0] == 0 and found[1] == found[2], found
-    return found[1]
+    """What's told, and what a run leaves in register 3."""
+    row = ins(code, 3, off=off, imm=imm)
+    return after(row, (0, dst, dst)), run_alone([wide(3, dst), row, END])
 
 
 def by_src(code, dst, x, off=0):
-    found = after(ins(code, 3, 4, off), (0, dst, dst), (0, x, x))
-    assert found[0] == 0 and found[1] == found[2], found
-    return found[1]
+    row = ins(code, 3, 4, off)
+    return after(row, (0, dst, dst), (0, x, x)), run_alone([wide(3, dst), wide(4, x), row, END], x)
+
+
+def by_itself(code, number, off=0):
+    """Where dst and src are one register."""
+    row = ins(code, 3, 3, off)
+    return after(row, (0, number, number)), run_alone([wide(3, number), row, END])
 
 
 class OutcomeTest(unittest.TestCase):
     def check_src(self, code, rows, off=0):
         for dst, x, expected in rows:
-            self.assertEqual(by_src(code, dst, x, off), expected, (hex(code), hex(dst), hex(x)))
+            found = by_src(code, dst, x, off)
+            self.assertEqual(found, ([0, expected, expected], expected), (hex(code), hex(dst), hex(x)))
 
     def check_imm(self, code, rows, off=0):
         for dst, imm, expected in rows:
-            self.assertEqual(by_imm(code, dst, imm, off), expected, (hex(code), hex(dst), imm))
+            found = by_imm(code, dst, imm, off)
+            self.assertEqual(found, ([0, expected, expected], expected), (hex(code), hex(dst), imm))
+
+    def check_itself(self, code, rows, off=0):
+        for number, expected in rows:
+            found = by_itself(code, number, off)
+            self.assertEqual(found, ([0, expected, expected], expected), (hex(code), hex(number)))
 
     def test_add(self):
         self.check_src(0x0F, [(1, 2, 3), (MAX, 1, 0), (MAX, MAX, MAX - 1), (TOP, TOP, 0), (MAX, 0, MAX)])
@@ -109,6 +130,18 @@ class OutcomeTest(unittest.TestCase):
         self.check_src(0xCC, [(TOP32, 31, MAX32), (TOP, 1, 0), (MAX32, 32, MAX32), (TOP32 - 1, 1, (1 << 30) - 1)])
         self.check_imm(0xC4, [(TOP32, 1, TOP32 + (TOP32 >> 1)), (MAX, 1, MAX32), (TOP32 - 1, -1, 0)])
 
+    def test_shifts_by_many(self):
+        for bits, group in ((64, 7), (32, 4)):
+            for number in (1, 5, TOP32, MAX32, MAX32 - 2, TOP, TOP + TOP32 + 3, MAX):
+                low = number % 2 ** bits
+                sign = low - 2 ** bits if low >= 2 ** (bits - 1) else low
+                for by in (0, 1, 30, 31, 32, 33, 62, 63, 64, 65, 95, 96, 127, 128, 1000):
+                    times = 2 ** (by % bits)
+                    for op, expected in ((6, low * times), (7, low // times), (12, sign // times)):
+                        rows = [(number, by, expected % 2 ** bits)]
+                        self.check_imm(16 * op + group, rows)
+                        self.check_src(16 * op + 8 + group, rows)
+
     def test_neg(self):
         for code, rows in ((0x87, [(0, 0), (1, MAX), (TOP, TOP), (MAX, 1)]),
                            (0x84, [(0, 0), (1, MAX32), (TOP32, TOP32), (MAX, 1), (1 << 32, 0),
@@ -128,6 +161,35 @@ class OutcomeTest(unittest.TestCase):
         self.check_src(0xBC, [(1, 0x7F, 0x7F), (1, 0x80, minus(0x80, 32)), (1, MAX - 255, 0)], 8)
         self.check_src(0xBC, [(1, 0x7FFF, 0x7FFF), (1, 0x8000, minus(0x8000, 32)), (1, 0x18000, minus(0x8000, 32))], 16)
 
+    def test_one_register(self):
+        self.check_itself(0x0F, [(5, 10), (MAX, MAX - 1), (TOP, 0)])
+        self.check_itself(0x0C, [(MAX, MAX32 - 1), (TOP32, 0)])
+        self.check_itself(0x1F, [(5, 0), (MAX, 0)])
+        self.check_itself(0x1C, [(MAX, 0)])
+        self.check_itself(0x2F, [(MAX, 1), (1 << 32, 0), (7, 49)])
+        self.check_itself(0x2C, [(MAX, 1), (1 << 16, 0)])
+        for off in (0, 1):
+            self.check_itself(0x3F, [(0, 0), (MAX, 1), (TOP, 1)], off)
+            self.check_itself(0x3C, [(0, 0), (1 << 32, 0), (MAX, 1), (TOP32, 1)], off)
+            self.check_itself(0x9F, [(0, 0), (MAX, 0), (TOP, 0)], off)
+            self.check_itself(0x9C, [(0, 0), (1 << 32, 0), (MAX, 0)], off)
+        self.check_itself(0x4F, [(MAX, MAX)])
+        self.check_itself(0x4C, [(MAX, MAX32)])
+        self.check_itself(0x5F, [(TOP, TOP)])
+        self.check_itself(0x5C, [(TOP, 0)])
+        self.check_itself(0xAF, [(MAX, 0)])
+        self.check_itself(0xAC, [(MAX, 0)])
+        self.check_itself(0x6F, [(3, 24), (64, 64), (65, 130), (MAX, TOP)])
+        self.check_itself(0x6C, [(3, 24), (32, 32), (33, 66), (MAX, TOP32)])
+        self.check_itself(0x7F, [(MAX, 1), (64, 64), (65, 32), (TOP, TOP)])
+        self.check_itself(0x7C, [(MAX, 1), (32, 32), (33, 16), (TOP32, TOP32)])
+        self.check_itself(0xCF, [(MAX, MAX), (TOP, TOP), (TOP + 1, TOP + (TOP >> 1)), (65, 32)])
+        self.check_itself(0xCC, [(MAX, MAX32), (TOP32, TOP32), (TOP32 + 1, TOP32 + (TOP32 >> 1)), (33, 16)])
+        self.check_itself(0xBF, [(MAX, MAX)])
+        self.check_itself(0xBC, [(MAX, MAX32)])
+        self.check_itself(0xBF, [(0x180, minus(0x80)), (0x17F, 0x7F)], 8)
+        self.check_itself(0xBC, [(0x180, minus(0x80, 32)), (MAX, MAX32)], 8)
+
     def test_swap(self):
         number = 0x0123456789ABCDEF
         self.check_imm(0xD7, [(number, 16, 0xEFCD), (number, 32, 0xEFCDAB89), (number, 64, 0xEFCDAB8967452301)])
@@ -140,16 +202,19 @@ class OutcomeTest(unittest.TestCase):
             for code, number in ((0xD7, 0x3412), (0xD4, 0x1234), (0xDC, 0x3412)):
                 rows = load(row, wide(3, 0x1234), ins(code, 3, imm=16), END)
                 self.assertEqual(ask(rows, judge(0), tell(4, 3))[2], [0, number, number])
+                self.assertEqual(ask(rows, run(), reg(3))[2], [number])
 
     def test_neg_goes_by_dst_alone(self):
         for row in (ins(0x85), ins(0xBF, 0, 10)):
             rows = load(row, wide(3, 5), ins(0x87, 3), END)
             self.assertEqual(ask(rows, judge(0), tell(4, 3))[2], [0, minus(5), minus(5)])
+            self.assertEqual(ask(rows, run(), reg(3))[2], [minus(5)])
 
     def test_wide(self):
         for number in (0, 1, TOP32, MAX32, 1 << 32, TOP, MAX, 0x0123456789ABCDEF):
             found = ask(load(wide(7, number), END), judge(0), tell(2, 7), tell(1, 7))
             self.assertEqual(found[2:], [[0, number, number], [-1]])
+            self.assertEqual(run_alone([wide(3, MAX - number), wide(3, number), END]), number)
 
 
 if __name__ == "__main__":
